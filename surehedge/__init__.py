@@ -1,0 +1,1 @@
+"""Surehedge: contracts that can always be kept."""

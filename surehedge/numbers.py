@@ -1,0 +1,78 @@
+"""Numbers: tuples (n, d) of two whole numbers in lowest terms, d at least 1."""
+
+from math import gcd
+
+ZERO = (0, 1)
+
+
+def is_whole(value):
+    """Tells whether the value is a whole number; True and False are none."""
+    return isinstance(value, int) and not isinstance(value, bool)
+
+
+def is_number(value):
+    """Tells whether the value, of whatever kind, is a number."""
+    if not isinstance(value, tuple) or len(value) != 2:
+        return False
+    n, d = value
+    return is_whole(n) and is_whole(d) and d >= 1 and gcd(n, d) == 1
+
+
+def is_short(value):
+    """Tells whether the value, of whatever kind, is a short number."""
+    return is_number(value) and abs(value[0]) < 10 ** 12 and value[1] < 10 ** 12
+
+
+def number(n, d):
+    """Returns the number that n divided by d is; d is not 0."""
+    common = gcd(n, d)
+    if d < 0:
+        common = -common
+    return (n // common, d // common)
+
+
+def compare(a, b):
+    """Returns -1, 0 or 1 as a is less than b, equal to it, or greater."""
+    left = a[0] * b[1]
+    right = b[0] * a[1]
+    if left < right:
+        return -1
+    if left > right:
+        return 1
+    return 0
+
+
+def plus(a, b):
+    """Returns the sum of a and b."""
+    return number(a[0] * b[1] + b[0] * a[1], a[1] * b[1])
+
+
+def minus(a, b):
+    """Returns a less b."""
+    return number(a[0] * b[1] - b[0] * a[1], a[1] * b[1])
+
+
+def times(a, b):
+    """Returns the product of a and b."""
+    return number(a[0] * b[0], a[1] * b[1])
+
+
+def divided(a, b):
+    """Returns a divided by b; b is not 0."""
+    return number(a[0] * b[1], a[1] * b[0])
+
+
+def total(numbers):
+    """Returns the sum of a list of numbers."""
+    result = ZERO
+    for each in numbers:
+        result = plus(result, each)
+    return result
+
+
+def dot(a, b):
+    """Returns the sum of the products of two lists of numbers of the same length."""
+    result = ZERO
+    for left, right in zip(a, b):
+        result = plus(result, times(left, right))
+    return result
