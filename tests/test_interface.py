@@ -1,0 +1,87 @@
+import importlib
+import inspect
+import unittest
+
+from surehedge.errors import HedgeError
+
+FUNCTIONS = {
+    "numbers": """
+        is_number(value)
+        is_short(value)
+        number(n, d)
+        compare(a, b)
+        plus(a, b)
+        minus(a, b)
+        times(a, b)
+        divided(a, b)
+        total(numbers)
+        dot(a, b)
+    """,
+    "markets": """
+        is_name(value)
+        check_market(market)
+        children(market, node)
+        path_to(market, node)
+        leaves(market)
+        inner_nodes(market)
+        gains(market, node)
+        keeps_rules(market, node, holdings)
+        wealth_in(market, node, child, wealth, holdings)
+    """,
+    "contracts": """
+        check_contract(market, contract)
+        check_book(market, book)
+        amount_at(market, node, amount)
+        holds_at(market, node, condition)
+        has_choices(contract)
+    """,
+    "games": """
+        first_state(book)
+        check_state(book, state)
+        game_of(market, book, node, state)
+        ends_of(game)
+        end_of(game, moves)
+        reached(market, book)
+        reached_from(market, book, node, state)
+        exchanged(book)
+        payments_of(market, contract)
+    """,
+    "reading": """
+        lines_of(text)
+        words_of(line)
+        read_number(word)
+        read_market(text)
+        read_contract(market, text)
+        read_book(market, text)
+    """,
+    "writing": """
+        write_number(number)
+        write_amount(amount)
+        write_condition(condition)
+        write_clause(clause)
+        write_market(market)
+        write_contract(contract)
+        write_book(book)
+    """,
+}
+
+
+class Interface(unittest.TestCase):
+    def test_functions_stand_in_their_files(self):
+        for file, listed in FUNCTIONS.items():
+            module = importlib.import_module("surehedge." + file)
+            for row in listed.split("\n"):
+                if row.strip():
+                    name, _, arguments = row.strip().partition("(")
+                    with self.subTest(file=file, name=name):
+                        function = getattr(module, name)
+                        self.assertEqual(str(inspect.signature(function)), "(" + arguments)
+                        self.assertEqual(function.__module__, "surehedge." + file)
+
+    def test_all_errors_of_the_program_stand_in_their_file(self):
+        classes = HedgeError.__subclasses__() + [HedgeError]
+        self.assertEqual({each.__module__ for each in classes}, {"surehedge.errors"})
+
+
+if __name__ == "__main__":
+    unittest.main()
