@@ -1,6 +1,6 @@
 """Numbers: tuples (n, d) of two whole numbers in lowest terms, d at least 1."""
 
-from math import gcd
+from math import gcd, lcm
 
 ZERO = (0, 1)
 
@@ -62,6 +62,16 @@ def divided(a, b):
     return number(a[0] * b[1], a[1] * b[0])
 
 
+def negated(a):
+    """Returns a with the other sign."""
+    return (-a[0], a[1])
+
+
+def all_negated(numbers):
+    """Returns the list of the numbers with the other signs."""
+    return [negated(each) for each in numbers]
+
+
 def total(numbers):
     """Returns the sum of a list of numbers."""
     result = ZERO
@@ -76,3 +86,17 @@ def dot(a, b):
     for left, right in zip(a, b):
         result = plus(result, times(left, right))
     return result
+
+
+def in_whole(numbers):
+    """Returns whole numbers without a common divisor, and the number above 0 by which the numbers become these."""
+    common = 1
+    for each in numbers:
+        common = lcm(common, each[1])
+    wholes = [n * (common // d) for n, d in numbers]
+    divisor = 0
+    for each in wholes:
+        divisor = gcd(divisor, each)
+    if divisor == 0:
+        return (wholes, (1, 1))
+    return ([each // divisor for each in wholes], number(common, divisor))

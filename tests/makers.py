@@ -1,4 +1,6 @@
-"""Random contracts and texts, always the same ones for the same seed."""
+"""Random markets, contracts and texts, always the same ones for the same seed."""
+
+from fractions import Fraction
 
 from tests.helpers import node
 
@@ -84,3 +86,60 @@ def market(rng):
             )
         )
     return (assets, seen, nodes)
+
+
+def small(rng, size=5):
+    """A small number, often a whole one."""
+    fraction = Fraction(rng.randint(-size, size), rng.choice([1, 1, 1, 2, 3]))
+    return (fraction.numerator, fraction.denominator)
+
+
+def wide(rng):
+    """A number with twelve figures above and below."""
+    fraction = Fraction(rng.randint(1 - 10 ** 12, 10 ** 12 - 1), rng.randint(10 ** 11, 10 ** 12 - 1))
+    return (fraction.numerator, fraction.denominator)
+
+
+def grown_node(rng, parent, many, rules=None, price=small):
+    """A node with so many assets."""
+    return node(
+        parent,
+        [price(rng) for _ in range(many)],
+        growth=rng.choice([(1, 1), (1, 1), (11, 10), (1, 2), (3, 1)]),
+        rules=rules or [rng.choice(["any", "any", "long", "short", "none"]) for _ in range(many)],
+        payouts=[rng.choice([(0, 1), price(rng)]) for _ in range(many)],
+    )
+
+
+def step_market(rng, assets=None, children=None, price=small):
+    """A market of one step."""
+    assets = assets or rng.randint(1, 4)
+    children = children or rng.randint(1, 6)
+    nodes = [grown_node(rng, -1 if place == 0 else 0, assets, price=price) for place in range(children + 1)]
+    return (["a", "b", "c", "d"][:assets], [], nodes)
+
+
+def free_step_market(rng, assets=None, children=None):
+    """A market of one step that is free: positive weights are chosen first, and the prices made for them."""
+    assets = assets or rng.randint(1, 3)
+    children = children or rng.randint(2, 5)
+    below = [grown_node(rng, 0, assets) for _ in range(children)]
+    return (["a", "b", "c", "d"][:assets], [], [parent_of(rng, -1, below)] + below)
+
+
+def parent_of(rng, parent, below):
+    """A node at which some positive weights of these children have mean gains that the rules want."""
+    parts = [rng.randint(1, 4) for _ in below]
+    growth = rng.choice([(1, 1), (11, 10), (1, 2)])
+    prices = []
+    rules = []
+    for asset in range(len(below[0][3])):
+        values = [Fraction(*row[3][asset]) + Fraction(*row[4][asset]) for row in below]
+        mean = sum(part * value for part, value in zip(parts, values)) / sum(parts)
+        rule = rng.choice(["any", "any", "long", "short", "none"])
+        # A price above the fair one leaves those who hold with a loss, one below it those who owe.
+        off = {"any": 0, "long": rng.randint(0, 2), "short": -rng.randint(0, 2), "none": rng.randint(-3, 3)}[rule]
+        price = mean / Fraction(*growth) + off
+        prices.append((price.numerator, price.denominator))
+        rules.append(rule)
+    return node(parent, prices, growth=growth, rules=rules)

@@ -101,15 +101,31 @@ class Form(unittest.TestCase):
                 if isinstance(node, ast.Name) and isinstance(node.ctx, ast.Load) and node.id in allowed:
                     self.assertIn(node.id, BUILTINS)
 
+    def own_methods(self):
+        for _, _, tree in self.each():
+            for node in ast.walk(tree):
+                if isinstance(node, ast.ClassDef):
+                    yield from [each.name for each in node.body if isinstance(each, ast.FunctionDef)]
+
     def test_methods(self):
+        own = set(self.own_methods())
         for _, _, tree in self.each():
             for node in ast.walk(tree):
                 if isinstance(node, ast.Call) and isinstance(node.func, ast.Attribute):
-                    self.assertIn(node.func.attr, METHODS)
-                    self.assertEqual(node.keywords, [])
+                    self.assertIn(node.func.attr, own | set(METHODS))
+                    if node.func.attr not in own:
+                        self.assertEqual(node.keywords, [])
+
+    def test_own_methods_and_attributes_have_names_of_their_own(self):
+        taken = {name for kind in (str, int, list, dict, set, bytes, tuple) for name in dir(kind)} - {"__init__"}
+        self.assertEqual(set(self.own_methods()) & taken, set())
+        for _, _, tree in self.each():
+            for node in ast.walk(tree):
+                if isinstance(node, ast.Attribute) and isinstance(node.ctx, ast.Store):
+                    self.assertNotIn(node.attr, taken)
 
     def test_imports(self):
-        library = {"math": {"gcd"}}
+        library = {"math": {"gcd", "lcm"}}
         found = {}
         for path, _, tree in self.each():
             found[path.stem] = set()

@@ -63,6 +63,38 @@ FUNCTIONS = {
         write_contract(contract)
         write_book(book)
     """,
+    "systems": """
+        check_system(count, rows)
+        check_objective(count, objective, rows)
+        value_of(factors, numbers)
+        fulfills(rows, numbers)
+        refutes(count, rows, multipliers)
+        solve_system(count, rows)
+        judge_system(count, rows, answer)
+        least_of(count, objective, rows)
+        judge_least(count, objective, rows, answer)
+    """,
+    "weights": """
+        is_weights(market, node, numbers, *, positive=False)
+        extreme_weights(market, node)
+        mean_weights(market, node)
+        unfree_node(market)
+        check_free(market)
+        is_complete(market)
+    """,
+    "arbitrage": """
+        win(market, child, holdings)
+        wins(market, node, holdings)
+        arbitrage_of(market)
+        judge_arbitrage(market, answer)
+    """,
+    "steps": """
+        covers(market, node, values, *, wealth, holdings)
+        cost_of(market, node, values)
+        loan_on(market, node, values)
+        judge_cost(market, node, values, paper)
+        judge_loan(market, node, values, paper)
+    """,
 }
 
 

@@ -130,6 +130,22 @@ class Reckoning(unittest.TestCase):
         for value in (True, False, 1.0, "1", None, (1, 1)):
             self.assertIs(numbers.is_whole(value), False)
 
+    def test_other_signs(self):
+        for value in SAMPLES:
+            self.assertEqual(numbers.negated(value), minus((0, 1), value))
+        self.assertEqual(call_kept(self, numbers.all_negated, SAMPLES), [numbers.negated(each) for each in SAMPLES])
+
+    def test_in_whole(self):
+        for given, wholes, scale in (
+            ([], [], (1, 1)),
+            ([(0, 1), (0, 1)], [0, 0], (1, 1)),
+            ([(1, 2), (-1, 3)], [3, -2], (6, 1)),
+            ([(4, 1), (0, 1), (-6, 1)], [2, 0, -3], (1, 2)),
+            ([(4, 3), (2, 9)], [6, 1], (9, 2)),
+            ([(-5, 7)], [-1], (7, 5)),
+        ):
+            self.assertEqual(call_kept(self, numbers.in_whole, given), (wholes, scale))
+
 
 if __name__ == "__main__":
     unittest.main()
