@@ -14,7 +14,7 @@ from surehedge.errors import (
 )
 from surehedge.grammar import CHOOSERS, PARTS, SIDES, SIGNS, kinds_behind
 from surehedge.markets import is_leaf, is_name, path_to
-from surehedge.numbers import compare, is_short, plus, times
+from surehedge.numbers import compare, greater, is_short, lesser, plus, times
 
 MOST_DEFINITIONS = 12
 MOST_CONTRACTS = 4
@@ -102,8 +102,8 @@ def amount_at(market, node, amount):
     if word == "plus":
         return plus(left, right)
     if word == "max":
-        return left if compare(left, right) >= 0 else right
-    return left if compare(left, right) <= 0 else right
+        return greater(left, right)
+    return lesser(left, right)
 
 
 def _quantity_at(market, node, name):

@@ -53,7 +53,7 @@ def _game_from(market, book, node, todo, so_far):
     """
     todo = list(todo)
     paid, behind, choices = so_far
-    behind = _copied(behind)
+    behind = copied(behind)
     ends_here = is_leaf(market, node)
     while todo:
         index, clause = todo.pop()
@@ -92,14 +92,15 @@ def _chooser(side, who):
     return "ours" if who == ours else "theirs"
 
 
-def _copied(state):
+def copied(state):
+    """Returns the state anew, as a caller may change what was returned."""
     return [list(names) for names in state]
 
 
 def ends_of(game):
     """Returns the list of the ends of the game, tuples (moves, paid, state), in order."""
     if game[0] == "end":
-        return [([], game[1], _copied(game[2]))]
+        return [([], game[1], copied(game[2]))]
     found = []
     for move in (0, 1):
         for moves, paid, state in ends_of(game[2 + move]):
@@ -115,7 +116,7 @@ def end_of(game, moves):
         game = game[2 + move]
     if game[0] != "end":
         raise MoreMoves()
-    return (game[1], _copied(game[2]))
+    return (game[1], copied(game[2]))
 
 
 def reached(market, book):
@@ -134,7 +135,7 @@ def reached_from(market, book, node, state):
             many += len(behind) * len(below)
             for child in below:
                 states_at[child] = behind
-    return [(place, _copied(each)) for place in sorted(states_at) for each in states_at[place]]
+    return [(place, copied(each)) for place in sorted(states_at) for each in states_at[place]]
 
 
 def _states_behind(market, book, node, states, many):

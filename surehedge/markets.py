@@ -5,7 +5,7 @@ A market is a tuple (assets, seen, nodes), a node a tuple
 """
 
 from surehedge.errors import BadGrowth, BadName, BadNumber, BadParent, BadRule, BadSize
-from surehedge.numbers import ZERO, compare, dot, is_short, is_whole, minus, plus, times
+from surehedge.numbers import ZERO, check_shorts, compare, dot, is_short, is_whole, minus, plus, times
 
 LETTERS = "abcdefghijklmnopqrstuvwxyz"
 DIGITS = "0123456789"
@@ -57,9 +57,9 @@ def _check_node(market, place):
     if compare(growth, ZERO) <= 0:
         raise BadGrowth()
     _check_rules(rules, len(assets))
-    _check_numbers(prices, len(assets))
-    _check_numbers(payouts, len(assets))
-    _check_numbers(values, len(seen))
+    check_shorts(prices, len(assets))
+    check_shorts(payouts, len(assets))
+    check_shorts(values, len(seen))
 
 
 def _can_be_parent(parent, place):
@@ -76,14 +76,6 @@ def _check_rules(rules, many):
     for rule in rules:
         if rule not in RULES:
             raise BadRule()
-
-
-def _check_numbers(numbers, many):
-    if len(numbers) != many:
-        raise BadSize()
-    for each in numbers:
-        if not is_short(each):
-            raise BadNumber()
 
 
 def children(market, node):

@@ -2,6 +2,8 @@
 
 from math import gcd, lcm
 
+from surehedge.errors import BadNumber, BadSize
+
 ZERO = (0, 1)
 
 
@@ -23,6 +25,15 @@ def is_short(value):
     return is_number(value) and abs(value[0]) < 10 ** 12 and value[1] < 10 ** 12
 
 
+def check_shorts(values, many):
+    """Raises BadSize if there are not so many values, and BadNumber if one of them is not a short number."""
+    if len(values) != many:
+        raise BadSize()
+    for each in values:
+        if not is_short(each):
+            raise BadNumber()
+
+
 def number(n, d):
     """Returns the number that n divided by d is; d is not 0."""
     common = gcd(n, d)
@@ -40,6 +51,16 @@ def compare(a, b):
     if left > right:
         return 1
     return 0
+
+
+def lesser(a, b):
+    """Returns the lesser one of a and b."""
+    return a if compare(a, b) <= 0 else b
+
+
+def greater(a, b):
+    """Returns the greater one of a and b."""
+    return a if compare(a, b) >= 0 else b
 
 
 def plus(a, b):

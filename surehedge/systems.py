@@ -8,6 +8,7 @@ from surehedge.errors import BadNumber, BadSign, BadSize
 from surehedge.numbers import (
     ZERO,
     all_negated,
+    check_shorts,
     compare,
     dot,
     is_short,
@@ -33,7 +34,7 @@ def check_system(count, rows):
     if len(rows) > MOST_ROWS:
         raise BadSize()
     for factors, sign, bound in rows:
-        _check_factors(count, factors)
+        check_shorts(factors, count)
         if sign not in SIGNS:
             raise BadSign()
         if not is_short(bound):
@@ -42,18 +43,10 @@ def check_system(count, rows):
 
 def check_objective(count, objective, rows):
     """Raises the first error that is due for the objective beside a system, if there is one."""
-    _check_factors(count, objective)
+    check_shorts(objective, count)
     for _, sign, _ in rows:
         if sign == "<":
             raise BadSign()
-
-
-def _check_factors(count, factors):
-    if len(factors) != count:
-        raise BadSize()
-    for each in factors:
-        if not is_short(each):
-            raise BadNumber()
 
 
 def value_of(factors, numbers):
@@ -74,11 +67,11 @@ def refutes(count, rows, multipliers):
     """Tells whether the list of numbers is one of multipliers that refute the system."""
     if not _are_multipliers(rows, multipliers):
         return False
-    if any(each != ZERO for each in _mix(count, rows, multipliers)):
+    if any([each != ZERO for each in _mix(count, rows, multipliers)]):
         return False
     order = compare(_bound_of_mix(rows, multipliers), ZERO)
     if order == 0:
-        return any(row[1] == "<" and each != ZERO for row, each in zip(rows, multipliers))
+        return any([row[1] == "<" and each != ZERO for row, each in zip(rows, multipliers)])
     return order < 0
 
 

@@ -15,7 +15,7 @@ def is_weights(market, node, numbers, *, positive=False):
     if len(numbers) != len(rows) or total(numbers) != ONE:
         return False
     least = 1 if positive else 0
-    if any(compare(each, ZERO) < least for each in numbers):
+    if any([compare(each, ZERO) < least for each in numbers]):
         return False
     for place, rule in enumerate(market[2][node][2]):
         mean = dot(numbers, [row[place] for row in rows])
@@ -86,7 +86,7 @@ def _is_edge(rays, low, high):
     """Tells whether no third ray is 0 wherever both of these are."""
     places = [place for place, part in enumerate(low) if part == 0 and high[place] == 0]
     for ray in rays:
-        if ray != low and ray != high and all(ray[place] == 0 for place in places):
+        if ray != low and ray != high and all([ray[place] == 0 for place in places]):
             return False
     return True
 
@@ -111,7 +111,7 @@ def mean_weights(market, node):
 
 def _is_free(market, node):
     means = mean_weights(market, node)
-    return means != [] and all(compare(each, ZERO) > 0 for each in means)
+    return means != [] and all([compare(each, ZERO) > 0 for each in means])
 
 
 def unfree_node(market):

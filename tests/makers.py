@@ -142,4 +142,25 @@ def parent_of(rng, parent, below):
         price = mean / Fraction(*growth) + off
         prices.append((price.numerator, price.denominator))
         rules.append(rule)
-    return node(parent, prices, growth=growth, rules=rules)
+    payouts = [rng.choice([(0, 1), small(rng)]) for _ in prices]
+    return node(parent, prices, growth=growth, rules=rules, payouts=payouts)
+
+
+def free_market(rng, most=9, assets=None):
+    """A free market with a seen quantity and a tree of at most so many nodes."""
+    assets = assets or rng.randint(1, 2)
+    parents = [-1]
+    for place in range(1, rng.randint(1, most)):
+        parent = rng.randrange(place)
+        parents.append(parent if parents.count(parent) < 6 else place - 1)
+    return free_tree(rng, parents, assets)
+
+
+def free_tree(rng, parents, assets):
+    """A free market with this tree, made from the leaves on."""
+    nodes = [None] * len(parents)
+    for place in reversed(range(len(parents))):
+        below = [nodes[child] for child, parent in enumerate(parents) if parent == place]
+        row = parent_of(rng, parents[place], below) if below else grown_node(rng, parents[place], assets)
+        nodes[place] = row[:5] + ([small(rng)],)
+    return (["stock", "bond", "gold", "oil"][:assets], ["rain"], nodes)

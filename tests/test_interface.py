@@ -95,6 +95,29 @@ FUNCTIONS = {
         judge_cost(market, node, values, paper)
         judge_loan(market, node, values, paper)
     """,
+    "capital": """
+        game_capital(game, rests)
+        capitals(market, book)
+        capital(market, book)
+        capital_at(market, book, *, node, state)
+        raised(market, book, *, side, contract)
+    """,
+    "plans": """
+        is_plan(market, book, plan)
+        needs(market, book, plan)
+        best_plan(market, book)
+        follow(market, book, plan, *, wealth, play)
+    """,
+    "refuting": """
+        is_refutation(market, book, refutation)
+        shown(market, book, refutation)
+        best_refutation(market, book)
+        play_against(market, book, plan, *, wealth)
+    """,
+    "programs": """
+        solution(program)
+        is_solution(program, *, told)
+    """,
 }
 
 

@@ -443,6 +443,7 @@ class JudgingLeast(unittest.TestCase):
         self.told(False, ("least", (5, 1), numbers(2, 2), numbers(0, 3, -1)))
         self.told(False, ("least", (6, 1), numbers(2, 1), numbers(0, 3, -1)))
         self.told(False, ("least", (9, 1), numbers(3, 3), numbers(0, 3, -1)))
+        self.told(False, ("least", (6, 1), numbers(3, 3), numbers(0, 3, -1)))
         self.told(False, ("least", (6, 1), numbers(4, 1), numbers(0, 3, -1)))
         self.told(False, ("least", (6, 1), numbers(2, 2), numbers(1, 2, 0)))
         self.told(False, ("least", (6, 1), numbers(2, 2), numbers(0, 3, 1)))
