@@ -26,7 +26,7 @@ from surehedge.games import (
     reached_from,
 )
 from tests import makers
-from tests.helpers import call_kept, check_new, node, stock_market, tree, two_asset_market
+from tests.helpers import call_kept, check_new, stock_market, tree, two_asset_market
 
 NOTHING = ("nothing",)
 LEAF = ("leaf",)

@@ -3,10 +3,8 @@ import types
 import unittest
 
 from surehedge.errors import (
-    BadClause,
     BadGrowth,
     BadName,
-    BadNumber,
     BadParent,
     BadSize,
     BadText,

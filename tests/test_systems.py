@@ -14,7 +14,7 @@ from surehedge.systems import (
     value_of,
 )
 from tests import makers, second
-from tests.helpers import call_kept, check_new, num
+from tests.helpers import call_kept, check_new
 
 BIG = 10 ** 30 + 1
 BAD_NUMBERS = [
