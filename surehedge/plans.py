@@ -8,7 +8,8 @@ from surehedge.arbitrage import win
 from surehedge.capital import move_that_counts, rests_behind
 from surehedge.errors import BadStep
 from surehedge.games import copied, first_state, game_of, reached
-from surehedge.markets import children, is_leaf, keeps_rules, wealth_in
+from surehedge.holdings import can_be_held
+from surehedge.markets import children, is_leaf, wealth_in
 from surehedge.numbers import ZERO, divided, greater, minus, plus
 from surehedge.pairs import Ledger, along_trees, are_trees, played
 from surehedge.steps import covering
@@ -17,13 +18,7 @@ from surehedge.weights import check_free
 
 def is_plan(market, book, plan):
     """Tells whether the list of trees is a plan for the book."""
-    return are_trees(market, book, plan, "ours", _can_be_held)
-
-
-def _can_be_held(market, node, holdings):
-    if is_leaf(market, node):
-        return holdings == []
-    return len(holdings) == len(market[0]) and keeps_rules(market, node, holdings)
+    return are_trees(market, book, plan, "ours", can_be_held)
 
 
 def needs(market, book, plan):

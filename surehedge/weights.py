@@ -19,12 +19,12 @@ def is_weights(market, node, numbers, *, positive=False):
         return False
     for place, rule in enumerate(market[2][node][2]):
         mean = dot(numbers, [row[place] for row in rows])
-        if not _is_mean_gain(rule, compare(mean, ZERO)):
+        if not is_mean_gain(rule, compare(mean, ZERO)):
             return False
     return True
 
 
-def _is_mean_gain(rule, order):
+def is_mean_gain(rule, order):
     """Tells whether the mean gain of an asset with this rule can be below, at or above 0, as the order says."""
     if rule == "any":
         return order == 0

@@ -2,6 +2,7 @@
 
 from fractions import Fraction
 
+from surehedge.weights import unfree_node
 from tests.helpers import node
 
 NUMBERS = [(0, 1), (1, 1), (-3, 1), (7, 2), (-1, 4), (999999999999, 1), (5, 999999999999)]
@@ -164,3 +165,43 @@ def free_tree(rng, parents, assets):
         row = parent_of(rng, parents[place], below) if below else grown_node(rng, parents[place], assets)
         nodes[place] = row[:5] + ([small(rng)],)
     return (["stock", "bond", "gold", "oil"][:assets], ["rain"], nodes)
+
+
+def payments(rng, market, size=5):
+    """A small number for each node."""
+    return [small(rng, size) for _ in market[2]]
+
+
+def quotes(rng, market, masses, most=3):
+    """At most so many quotes, around the values that the masses give the payments, or off them."""
+    found = []
+    for _ in range(rng.randint(0, most)):
+        claim = payments(rng, market)
+        value = sum(Fraction(*a) * Fraction(*b) for a, b in zip(masses, claim))
+        bid = value - rng.choice([0, 0, 1, Fraction(1, 10), -2])
+        ask = value + rng.choice([0, 0, 1, Fraction(1, 10), -1])
+        found.append((claim, (bid.numerator, bid.denominator), (ask.numerator, ask.denominator)))
+    return found
+
+
+def greatest_market(rng, parents, assets=4, rules=("any",)):
+    """A market with numbers of twelve figures that likely is free: children are drawn until their parent is free."""
+    names = ["a", "b", "c", "d"][:assets]
+
+    def row(parent):
+        growth = Fraction(rng.randint(10 ** 11, 10 ** 12 - 2), 10 ** 12 - 1)
+        return node(
+            parent, [wide(rng) for _ in names], growth=(growth.numerator, growth.denominator),
+            rules=[rng.choice(rules) for _ in names], payouts=[wide(rng) for _ in names],
+        )
+
+    nodes = {0: row(-1)}
+    for place in range(len(parents)):
+        below = [child for child, parent in enumerate(parents) if parent == place]
+        while below:
+            drawn = [row(place) for _ in below]
+            step = (names, [], [(-1,) + nodes[place][1:]] + [(0,) + each[1:] for each in drawn])
+            if unfree_node(step) is None:
+                nodes.update(zip(below, drawn))
+                break
+    return (names, [], [nodes[place] for place in range(len(parents))])

@@ -118,6 +118,46 @@ FUNCTIONS = {
         solution(program)
         is_solution(program, *, told)
     """,
+    "quotes": """
+        is_masses(market, masses)
+        value_of(masses, payments)
+        agree(quotes, masses)
+        is_portfolio(market, quotes, portfolio)
+        wealths(market, quotes, portfolio)
+        is_sure_gain(market, quotes, portfolio)
+        positive_masses(market, quotes)
+        sure_gain(market, quotes)
+    """,
+    "prices": """
+        is_price(market, quotes, payments, price)
+        price_ends(market, quotes, payments)
+        high_evidence(market, quotes, payments)
+        low_evidence(market, quotes, payments)
+        is_high_evidence(market, quotes, payments, *, evidence)
+        is_low_evidence(market, quotes, payments, *, evidence)
+    """,
+    "copying": """
+        opposite(payments)
+        plan_wealths(market, payments, plan)
+        copies(market, payments, plan)
+        is_balances(market, balances)
+        speak_against(market, payments, balances)
+        copy_of(market, payments)
+        against(market, payments)
+        copied_price(market, payments)
+        copies_everything(market)
+        uncopied(market)
+    """,
+    "lines": """
+        straight(value, slope)
+        is_line(pieces)
+        value_at(line, x)
+        add_lines(line, other)
+        greater_line(line, other)
+        lesser_line(line, other)
+        scale_line(line, number)
+        first_slope(line)
+    """,
 }
 
 
