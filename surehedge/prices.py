@@ -7,6 +7,7 @@ from surehedge.errors import NotFreeTogether
 from surehedge.numbers import ZERO, all_negated, divided, dot, minus, negated
 from surehedge.quotes import (
     agree,
+    are_from_0,
     are_positive,
     is_masses,
     is_portfolio,
@@ -95,7 +96,7 @@ def is_high_evidence(market, quotes, payments, *, evidence):
     end, closed, masses, portfolio = evidence
     if not is_masses(market, masses) or not agree(quotes, masses) or value_of(masses, payments) != end:
         return False
-    if closed and not are_positive(masses):
+    if not are_from_0(masses) or (closed and not are_positive(masses)):
         return False
     if not is_portfolio(market, quotes, portfolio):
         return False

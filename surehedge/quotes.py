@@ -12,11 +12,12 @@ from surehedge.simplex import solved
 
 
 def is_masses(market, masses):
-    """Tells whether the list of numbers is one of masses."""
-    return fit_together(market, masses, ONE) and _are_from_0(masses)
+    """Tells whether the list of numbers is one of masses; these can be below 0."""
+    return fit_together(market, masses, ONE)
 
 
-def _are_from_0(numbers):
+def are_from_0(numbers):
+    """Tells whether no number is less than 0."""
     return all([compare(each, ZERO) >= 0 for each in numbers])
 
 
@@ -44,7 +45,7 @@ def is_portfolio(market, quotes, portfolio):
     bought, sold, holdings = portfolio
     if len(bought) != len(quotes) or len(sold) != len(quotes):
         return False
-    return _are_from_0(bought + sold) and all_can_be_held(market, holdings)
+    return are_from_0(bought + sold) and all_can_be_held(market, holdings)
 
 
 def wealths(market, quotes, portfolio):

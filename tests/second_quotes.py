@@ -25,9 +25,7 @@ def mass_rules_hold(market, numbers, root):
 
 
 def is_masses(market, masses, positive=False):
-    if not mass_rules_hold(market, masses, 1):
-        return False
-    return min(fractions(masses)) > 0 if positive else min(fractions(masses)) >= 0
+    return mass_rules_hold(market, masses, 1) and (not positive or min(fractions(masses)) > 0)
 
 
 def agree(quotes, masses):
@@ -109,7 +107,7 @@ def is_sure_gain(market, quotes, portfolio):
 
 def is_high_evidence(market, quotes, payments, evidence):
     end, closed, masses, portfolio = evidence
-    if not is_masses(market, masses, positive=closed) or not agree(quotes, masses):
+    if not is_masses(market, masses, positive=closed) or min(fractions(masses)) < 0 or not agree(quotes, masses):
         return False
     if product_of(masses, payments) != Fraction(*end) or not is_portfolio(market, quotes, portfolio):
         return False
@@ -119,7 +117,7 @@ def is_high_evidence(market, quotes, payments, evidence):
 
 def is_low_evidence(market, quotes, payments, evidence):
     end, closed, masses, portfolio = evidence
-    if not is_masses(market, masses, positive=closed) or not agree(quotes, masses):
+    if not is_masses(market, masses, positive=closed) or min(fractions(masses)) < 0 or not agree(quotes, masses):
         return False
     if product_of(masses, payments) != Fraction(*end) or not is_portfolio(market, quotes, portfolio):
         return False

@@ -274,6 +274,17 @@ class Evidence(unittest.TestCase):
         for closed in (True, False):
             self.judge("high", (market, quotes, payments, ((1, 1), closed, below_zero, portfolio)), False)
 
+    def test_masses_below_0_with_an_open_end(self):
+        market = (["stock"], [], [node(-1, [100])] + [node(0, [price]) for price in (120, 100, 100, 90)])
+        payments = numbers(0, 15, 0, 0, 0)
+        portfolio = ([], [], [numbers((1, 2)), [], [], [], []])
+        for middle, right in ((0, True), (1, False), ((1, 10 ** 30), False)):
+            middle = full(middle)
+            masses = numbers(1, (1, 3), middle, (-middle[0], middle[1]), (2, 3))
+            self.judge("high", (market, [], payments, ((5, 1), False, masses, portfolio)), right)
+            lowest = numbers(0, -15, 0, 0, 0)
+            self.judge("low", (market, [], lowest, ((-5, 1), False, masses, portfolio)), right)
+
     def test_numbers_of_the_portfolio(self):
         for kind, case in self.closed_cases():
             bought, sold, holdings = case[3][3]

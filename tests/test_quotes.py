@@ -125,8 +125,10 @@ class Masses(unittest.TestCase):
         self.judge(market, masses, True)
 
     def test_numbers_below_0(self):
-        self.judge(with_rule("none"), numbers(1, 2, -1), False)
-        self.judge(with_rule("none"), numbers(1, (-1, 10 ** 30), (10 ** 30 + 1, 10 ** 30)), False)
+        # Point 51 asks for numbers more than 0 of positive masses only, point 57 for 0 at least of those of evidence.
+        self.judge(with_rule("none"), numbers(1, 2, -1), True)
+        self.judge(with_rule("none"), numbers(1, (-1, 10 ** 30), (10 ** 30 + 1, 10 ** 30)), True)
+        self.judge(with_rule("none"), numbers(1, 2, -2), False)
         self.judge(with_rule("none"), numbers(1, 0, 1), True)
 
     def test_lists_of_other_lengths(self):
