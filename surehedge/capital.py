@@ -1,7 +1,7 @@
 """Capital: the least wealth with which a book can be kept."""
 
 from surehedge.games import ends_of, first_state, reached, reached_from
-from surehedge.markets import is_leaf
+from surehedge.markets import children, is_leaf
 from surehedge.numbers import ZERO, greater, lesser, minus, plus
 from surehedge.pairs import Ledger, played
 from surehedge.steps import cost_under, costliest
@@ -21,11 +21,15 @@ class Rests:
         self._lists = {}
         self._rests = Ledger(market)
 
-    def weights(self, node, state):
-        """Returns the weights under which the capitals of the children in this state have the greatest mean."""
+    def extremes(self, node):
+        """Returns the extreme weights of the node; they are only read."""
         if node not in self._lists:
             self._lists[node] = extreme_weights(self.market, node)
-        return list(costliest(self._lists[node], self.capitals.below(node, state)))
+        return self._lists[node]
+
+    def weights(self, node, state):
+        """Returns the weights under which the capitals of the children in this state have the greatest mean."""
+        return list(costliest(self.extremes(node), self.capitals.below(node, state)))
 
     def rest(self, node, state):
         """Returns the rest of the state."""
@@ -44,22 +48,31 @@ class Rests:
 
 def rests_behind(market, rows):
     """Returns the rests and capitals of pairs, of which the tuples (node, state, game) are handed in."""
+    return rests_with(market, rows, 0, ZERO)
+
+
+def rests_with(market, rows, moved, more):
+    """Returns the same if at the node that is moved so much more has to be paid than its games say."""
     rests = Rests(market)
     for node, state, game in rows[::-1]:
-        rests.capitals.enter(node, state, game_capital(game, rests.of_game(node, game)))
+        needed = game_capital(game, rests.of_game(node, game))
+        if node == moved:
+            needed = plus(needed, more)
+        rests.capitals.enter(node, state, needed)
     return rests
 
 
 def game_capital(game, rests):
     """Returns the capital of a game, with these rests of the states in which it ends."""
     if game[0] == "end":
-        return plus(game[1], _rest_of(game[2], rests))
+        return plus(game[1], of_state(game[2], rests))
     first = game_capital(game[2], rests)
     second = game_capital(game[3], rests)
     return lesser(first, second) if game[0] == "ours" else greater(first, second)
 
 
-def _rest_of(state, rests):
+def of_state(state, rests):
+    """Returns what stands beside the state in a list of tuples, such as its rest."""
     found = [rest for other, rest in rests if other == state]
     return found[0]
 
@@ -85,8 +98,21 @@ def capital(market, book):
 def capital_at(market, book, *, node, state):
     """Returns the capital of the pair of this node and this state, reached or not; raises NotFree."""
     check_free(market)
+    return capital_of_pair(market, book, node, state)
+
+
+def capital_of_pair(market, book, node, state):
+    """Returns the capital of the pair; the market is free."""
     pairs = reached_from(market, book, node, state)
     return rests_behind(market, played(market, book, pairs)).capitals.at(node, state)
+
+
+def rest_of_state(market, book, node, state):
+    """Returns the rest of the state at the node; the market is free."""
+    rows = []
+    for child in children(market, node):
+        rows.extend(played(market, book, reached_from(market, book, child, state)))
+    return rests_behind(market, rows).rest(node, state)
 
 
 def raised(market, book, *, side, contract):

