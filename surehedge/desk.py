@@ -1,7 +1,7 @@
 """Desks: going down a market with a book and a wealth that always suffices."""
 
 from surehedge.capital import capital_of_pair, rest_of_state
-from surehedge.contracts import check_contract
+from surehedge.contracts import MOST_CONTRACTS, check_contract
 from surehedge.errors import (
     BadEntry,
     BadMove,
@@ -19,13 +19,11 @@ from surehedge.errors import (
     NotSettled,
 )
 from surehedge.fresh import fresh
-from surehedge.games import copied, end_of, game_of, reached_from
+from surehedge.games import copied, end_of, game_of
+from surehedge.grammar import SIDES
 from surehedge.markets import check_market, children, keeps_rules, wealth_in
 from surehedge.numbers import ZERO, compare, is_number, is_short, is_whole, minus, plus
 from surehedge.weights import check_free
-
-SIDES = ("written", "held")
-MOST_CONTRACTS = 4
 
 
 class Desk:
@@ -63,8 +61,8 @@ class Desk:
             raise BadSize()
         book = book + [(side, fresh(contract))]
         state = state + [[contract[0][0]]]
-        reached_from(self._market, book, node, state)
         wealth = plus(wealth, price) if side == "written" else minus(wealth, price)
+        # The capital there cannot be told if too much is reached: what reached_from raises comes first.
         self._go_on((node, False, wealth, book, state), ("take", side, fresh(contract), price))
         return len(book)
 

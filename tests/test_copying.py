@@ -1,4 +1,3 @@
-import copy
 import random
 import time
 import unittest

@@ -16,7 +16,7 @@ from surehedge.reading import read_book, read_market
 from surehedge.refuting import best_refutation, is_refutation, play_against, shown
 from surehedge.whole import is_covered, moves_that_matter, netting
 from surehedge.writing import write_book, write_market
-from tests import makers, second
+from tests import second
 from tests.test_capital import random_case
 from tests.test_desk import show
 
